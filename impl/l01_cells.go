@@ -1,6 +1,7 @@
 package impl
 
 import (
+	"cmp"
 	"strconv"
 	"strings"
 )
@@ -61,6 +62,20 @@ func RefOk(r Ref) bool {
 	return r.Col >= 1 && r.Col <= MaxCols && r.Row >= 1 && r.Row <= MaxRows
 }
 
+func compareRefs(a Ref, b Ref) int {
+	return cmp.Or(cmp.Compare(a.Row, b.Row), cmp.Compare(a.Col, b.Col))
+}
+
+// placesRise asks for right places, in order, no two alike.
+func placesRise[T any](l []T, placeOf func(T) Ref) bool {
+	for i, c := range l {
+		if !RefOk(placeOf(c)) || i > 0 && compareRefs(placeOf(l[i-1]), placeOf(c)) >= 0 {
+			return false
+		}
+	}
+	return true
+}
+
 func PlaceText(p Place) string {
 	if !RefOk(p.At) {
 		return ""
@@ -107,6 +122,10 @@ func readDecimal(s string) (int64, bool) {
 
 func AreaOk(a Area) bool {
 	return RefOk(a.From) && RefOk(a.To) && a.From.Col <= a.To.Col && a.From.Row <= a.To.Row
+}
+
+func (a Area) has(r Ref) bool {
+	return r.Col >= a.From.Col && r.Col <= a.To.Col && r.Row >= a.From.Row && r.Row <= a.To.Row
 }
 
 func CellsOf(a Area) []Ref {

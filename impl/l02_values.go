@@ -187,6 +187,28 @@ func asText(v Value) (string, failure) {
 	}
 }
 
+// asTruth answers v as a truth value and 0, or the error that is to be told in its place.
+func asTruth(v Value) (bool, failure) {
+	switch m := meaningOf(v).(type) {
+	case blank:
+		return false, 0
+	case number:
+		return m != 0, 0
+	case truth:
+		return m != 0, 0
+	case failure:
+		return false, m
+	}
+	return false, ErType
+}
+
+func truthValue(holds bool) Value {
+	if holds {
+		return truth(1).value()
+	}
+	return truth(0).value()
+}
+
 func bothAsNumbers(a Value, b Value) (int64, int64, failure) {
 	x, refusal := asNumber(a)
 	if refusal != 0 {
@@ -271,10 +293,7 @@ func Held(op int64, a Value, b Value) Value {
 	if b.Kind == VlError {
 		return b
 	}
-	if holds(op, Order(besideOther(a, b), besideOther(b, a))) {
-		return truth(1).value()
-	}
-	return truth(0).value()
+	return truthValue(holds(op, Order(besideOther(a, b), besideOther(b, a))))
 }
 
 // besideOther lets a blank count as the zero value of the other one's Kind.
