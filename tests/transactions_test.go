@@ -34,9 +34,7 @@ func plainAttempt(d impl.Dag, name string, base int64, m []impl.Stmt, fuel int64
 	}
 	s, many := to, len(to)
 	for _, at := range r.places {
-		if plainAt(to, at) == "" {
-			many++
-		}
+		many++
 		s = plainEnter(s, at, plainAt(r.sheet, at))
 	}
 	if many > impl.MaxCells {
@@ -250,12 +248,14 @@ func TestP12Room(t *testing.T) {
 		left  int
 	}{
 		{impl.MaxCells - 1, 2, "put K1 5", impl.TxDone, impl.MaxCells}, {impl.MaxCells - 1, 2, "put K1 5; put L1 5", impl.TxFull, 0}, {impl.MaxCells - 2, 2, "put K1 5; put L1 5", impl.TxDone, impl.MaxCells}, {impl.MaxCells, 2, "put K1 5", impl.TxFull, 0}, {impl.MaxCells, 2, "", impl.TxDone, impl.MaxCells},
-		// Places that the Head has already count once, whatever is left there.
-		{impl.MaxCells, 2, "put A1 5", impl.TxDone, impl.MaxCells}, {impl.MaxCells, 2, "put A1 ", impl.TxDone, impl.MaxCells - 1}, {impl.MaxCells, 2, "put J12 5; put C3 ; set B1 A1", impl.TxDone, impl.MaxCells - 1}, {impl.MaxCells - 1, 2, "put A1 5; put K1 5; put A2 ; put A3 6", impl.TxDone, impl.MaxCells - 1}, {impl.MaxCells - 1, 2, "put A1 5; put K1 5; put A2 ; put L3 6", impl.TxFull, 0},
+		// Places that the Head has already count beside its cells, whatever is left there: just MaxCells together, and one more.
+		{impl.MaxCells, 2, "put A1 5", impl.TxFull, 0}, {impl.MaxCells, 2, "put A1 ", impl.TxFull, 0}, {impl.MaxCells, 2, "put J12 7", impl.TxFull, 0}, {impl.MaxCells - 1, 2, "put A1 5", impl.TxDone, impl.MaxCells - 1}, {impl.MaxCells - 1, 2, "put A1 ", impl.TxDone, impl.MaxCells - 2}, {impl.MaxCells - 1, 2, "set A1 B1", impl.TxDone, impl.MaxCells - 1}, {impl.MaxCells - 1, 2, "put A1 5; put B1 5", impl.TxFull, 0}, {impl.MaxCells - 1, 2, "put A1 ; put B1 ", impl.TxFull, 0}, {impl.MaxCells - 1, 2, "put A1 5; put K1 5", impl.TxFull, 0}, {impl.MaxCells - 2, 2, "put A1 5; put B1 5", impl.TxDone, impl.MaxCells - 2}, {impl.MaxCells - 2, 2, "put A1 5; put K1 5", impl.TxDone, impl.MaxCells - 1}, {impl.MaxCells - 2, 2, "put A1 ; put K1 5", impl.TxDone, impl.MaxCells - 2}, {impl.MaxCells - 3, 2, "put C3 ; put J9 5; set B1 A1", impl.TxDone, impl.MaxCells - 4}, {impl.MaxCells - 2, 2, "put C3 ; put J9 5; set B1 A1", impl.TxFull, 0},
+		// A place that is set again counts once.
+		{impl.MaxCells - 1, 2, "put A1 5; put A1 6; put A1 ", impl.TxDone, impl.MaxCells - 2}, {impl.MaxCells - 1, 2, "put K1 5; put K1 6", impl.TxDone, impl.MaxCells}, {impl.MaxCells - 2, 2, "put A1 5; put B1 5; put A1 6", impl.TxDone, impl.MaxCells - 2},
 		// Places set to "" count, those that the Head has not, too.
-		{impl.MaxCells, 2, "put K1 ", impl.TxFull, 0}, {impl.MaxCells - 1, 2, "put K1 ", impl.TxDone, impl.MaxCells - 1}, {impl.MaxCells - 1, 2, "put K1 5; put K1 ", impl.TxDone, impl.MaxCells - 1}, {impl.MaxCells - 1, 2, "put K1 5; put K1 ; put L1 5", impl.TxFull, 0}, {impl.MaxCells - 1, 2, "put K1 ; put L1 ", impl.TxFull, 0}, {impl.MaxCells, 2, "put A1 ; put K1 5", impl.TxFull, 0}, {impl.MaxCells - 1, 2, "put A1 ; put K1 5", impl.TxDone, impl.MaxCells - 1},
+		{impl.MaxCells, 2, "put K1 ", impl.TxFull, 0}, {impl.MaxCells - 1, 2, "put K1 ", impl.TxDone, impl.MaxCells - 1}, {impl.MaxCells - 1, 2, "put K1 5; put K1 ", impl.TxDone, impl.MaxCells - 1}, {impl.MaxCells - 1, 2, "put K1 5; put K1 ; put L1 5", impl.TxFull, 0}, {impl.MaxCells - 1, 2, "put K1 ; put L1 ", impl.TxFull, 0}, {impl.MaxCells, 2, "put A1 ; put K1 5", impl.TxFull, 0}, {impl.MaxCells - 2, 2, "put K1 ; put L1 ", impl.TxDone, impl.MaxCells - 2},
 		// From the Head, too: there the macro itself may be done, or have no room.
-		{impl.MaxCells, 3, "put A1 ; put K1 5", impl.TxFull, 0}, {impl.MaxCells, 3, "put K1 5", impl.TxMacro, 0}, {impl.MaxCells, 3, "set A1 B1", impl.TxDone, impl.MaxCells}, {impl.MaxCells - 1, 3, "put K1 5", impl.TxDone, impl.MaxCells}, {impl.MaxCells - 1, 3, "put K1 5; put K1 ; put L1 5", impl.TxFull, 0},
+		{impl.MaxCells, 3, "put A1 ; put K1 5", impl.TxFull, 0}, {impl.MaxCells, 3, "put K1 5", impl.TxMacro, 0}, {impl.MaxCells, 3, "set A1 B1", impl.TxFull, 0}, {impl.MaxCells, 3, "abort A1=0", impl.TxDone, impl.MaxCells}, {impl.MaxCells - 1, 3, "set A1 B1", impl.TxDone, impl.MaxCells - 1}, {impl.MaxCells - 1, 3, "put K1 5", impl.TxDone, impl.MaxCells}, {impl.MaxCells - 1, 3, "put K1 5; put K1 ; put L1 5", impl.TxFull, 0},
 		// A conflict is told ahead of no room.
 		{impl.MaxCells, 2, "set K1 A1", impl.TxFull, 0}, {impl.MaxCells, 2, "set K1 C1", impl.TxConflict, 0},
 	} {
