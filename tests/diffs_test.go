@@ -294,7 +294,12 @@ func plainAt(s []impl.Cell, r impl.Ref) string {
 func plainMerged(o []impl.Cell, x []impl.Cell, y []impl.Cell) ([]impl.Cell, []impl.Ref) {
 	var n []impl.Cell
 	var clash []impl.Ref
-	for _, r := range plainCells(func(r impl.Ref) bool { return r.Col <= 6 && r.Row <= 6 }) {
+	var places []impl.Ref
+	for _, c := range slices.Concat(o, x, y) {
+		places = append(places, c.At)
+	}
+	slices.SortFunc(places, plainOrder)
+	for _, r := range slices.Compact(places) {
 		was, one, other := plainAt(o, r), plainAt(x, r), plainAt(y, r)
 		source := one
 		if one == was {

@@ -808,6 +808,9 @@ func plainMergedIn(d impl.Dag, into int, from int) (impl.Dag, []impl.Ref, int64)
 	if len(clash) > 0 {
 		return n, clash, impl.DgClash
 	}
+	if len(s) > impl.MaxCells {
+		return n, nil, impl.DgSheet
+	}
 	n, _, code := plainCommitted(d, d.Branches[into].Name, s)
 	if code == impl.DgDone {
 		n.Versions[len(n.Versions)-1].Ups = []int64{min(head, other), max(head, other)}
